@@ -1,0 +1,1 @@
+"""Assentwhole: agreement on one growing roll, with trust told as a language."""

@@ -1,0 +1,177 @@
+"""[2], [13]: names and parameters of the interface, and which of several wrong ones is named."""
+
+import importlib
+import inspect
+import itertools
+
+from assentwhole.errors import BadCounts, BadCrowd, BadLots, BadStair, BadTrust, NotUsable
+from tests.samples import BOTH, LOTS, TWO, Checks
+
+STAIR = ((0, 1), (2, 0))
+CROWD = (((1, 3),), ((0, 1),))
+PARTS = (((("c", 3),), ("lot", 0, 2)), ((("d", 1),), ("lot", 0, 1)))
+
+# For each kind of parameter wrong values, each with the error that it raises.
+WRONG_LOTS = (
+    (None, BadLots(-1, "shape")), ([("a", 3)], BadLots(-1, "shape")), ((["a", 3],), BadLots(0, "shape")),
+    ((("a", 3), ("of", 1)), BadLots(1, "word")), ((("a", 3), ("a", 1)), BadLots(1, "twice")),
+    ((("a", True),), BadLots(0, "size")),
+)
+WRONG_COUNTS = (
+    (None, BadCounts(-1)), ([0, 0], BadCounts(-1)), ((True, 0), BadCounts(0)), ((4, 0), BadCounts(0)),
+    ((3, 2), BadCounts(1)),
+)
+WRONG_CROWD = (
+    (None, BadCrowd(-1)), ([(), ()], BadCrowd(-1)), (([], ()), BadCrowd(0)), (((), ((0, True),)), BadCrowd(1)),
+    ((((0, 4),), ()), BadCrowd(0)),
+)
+WRONG_TRUST = (
+    (None, BadTrust(0, "shape")), (["lot", 0, 1], BadTrust(0, "shape")), (("lot", True, 1), BadTrust(0, "lot")),
+    (("any", 1, (TWO, ("lot", 0, 5))), BadTrust(2, "many")), (("least", ((1, 1), (1, 0))), BadTrust(0, "stair")),
+)
+WRONG_STAIR = (
+    (None, BadStair(-1)), ([(0, 1)], BadStair(-1)), (((0, True),), BadStair(0)), (((0, 1), (1, 1)), BadStair(1)),
+)
+WRONG_STAIRS = tuple((thing, NotUsable("stairs")) for thing in (None, [STAIR], STAIR, (STAIR, ((4, 0),))))
+WRONG_TEXT = tuple((thing, NotUsable("text")) for thing in (None, 5, True, ["a"]))
+
+
+def not_usable(name, *things):
+    return tuple((thing, NotUsable(name)) for thing in things)
+
+
+LOTS_PART = ("lots", LOTS, WRONG_LOTS)
+ONE_COUNTS, TWO_COUNTS = ("one", (2, 0), WRONG_COUNTS), ("two", (2, 1), WRONG_COUNTS)
+ONE_CROWD, TWO_CROWD = ("one", CROWD, WRONG_CROWD), ("two", ((), ()), WRONG_CROWD)
+ONE_STAIR, TWO_STAIR = ("one", STAIR, WRONG_STAIR), ("two", ((1, 0),), WRONG_STAIR)
+TRUST, STAIR_PART = ("trust", BOTH, WRONG_TRUST), ("stair", STAIR, WRONG_STAIR)
+COUNTS, WISH = ("counts", (2, 1), WRONG_COUNTS), ("wish", ((0, 1),), WRONG_STAIR)
+STAIRS = ("stairs", (STAIR, STAIR), WRONG_STAIRS)
+
+INTERFACE = {
+    "lots.check_lots": (("thing", LOTS, WRONG_LOTS),),
+    "lots.everyone": (LOTS_PART,),
+    "lots.nobody": (LOTS_PART,),
+    "counting.check_counts": (LOTS_PART, ("thing", (3, 1), WRONG_COUNTS)),
+    "counting.below": (LOTS_PART, ONE_COUNTS, TWO_COUNTS),
+    "counting.least_common": (LOTS_PART, ONE_COUNTS, TWO_COUNTS),
+    "counting.outside": (LOTS_PART, COUNTS),
+    "crowds.check_crowd": (LOTS_PART, ("thing", CROWD, WRONG_CROWD)),
+    "crowds.crowd_of": (LOTS_PART, ("spans", ((0, 1, 3),), not_usable("spans", None, [], ((0, 1, 4),), ([0, 1, 2],)))),
+    "crowds.counts_of": (LOTS_PART, ("crowd", CROWD, WRONG_CROWD)),
+    "crowds.has_house": (
+        LOTS_PART, ("crowd", CROWD, WRONG_CROWD), ("lot", 1, not_usable("lot", None, 2, True, -1)),
+        ("number", 0, not_usable("number", None, 3, False, -1)),
+    ),
+    "crowdjoins.all_houses": (LOTS_PART,),
+    "crowdjoins.no_houses": (LOTS_PART,),
+    "crowdjoins.crowd_either": (LOTS_PART, ONE_CROWD, TWO_CROWD),
+    "crowdjoins.crowd_both": (LOTS_PART, ONE_CROWD, TWO_CROWD),
+    "crowdjoins.crowd_less": (LOTS_PART, ONE_CROWD, TWO_CROWD),
+    "crowdjoins.crowd_within": (LOTS_PART, ONE_CROWD, TWO_CROWD),
+    "placing.first_houses": (LOTS_PART, COUNTS),
+    "placing.place_two": (LOTS_PART, ONE_COUNTS, TWO_COUNTS, ("fall", CROWD, WRONG_CROWD)),
+    "crowdtexts.crowd_text": (LOTS_PART, ("crowd", CROWD, WRONG_CROWD)),
+    "crowdtexts.read_crowd": (LOTS_PART, ("text", "a:0-1 b:0", WRONG_TEXT)),
+    "trustchecks.check_trust": (LOTS_PART, ("thing", BOTH, WRONG_TRUST)),
+    "holding.holds": (LOTS_PART, TRUST, COUNTS),
+    "holding.never_holds": (LOTS_PART, TRUST),
+    "holding.always_holds": (LOTS_PART, TRUST),
+    "mirrors.mirror_of": (LOTS_PART, TRUST),
+    "mirrors.beyond": (LOTS_PART, COUNTS),
+    "grids.atoms_of": (LOTS_PART, TRUST),
+    "grids.grid_of": (LOTS_PART, TRUST),
+    "trustreading.read_trust": (
+        LOTS_PART, ("names", (("t", TWO),), not_usable("names", None, [], (("a", TWO),), (("t", ("lot", 0, True)),))),
+        ("text", "1 of (t, b)", WRONG_TEXT),
+    ),
+    "trusttexts.trust_text": (LOTS_PART, TRUST),
+    "stairs.check_stair": (LOTS_PART, ("thing", STAIR, WRONG_STAIR)),
+    "stairs.stair_of": (LOTS_PART, TRUST),
+    "stairs.stair_holds": (LOTS_PART, STAIR_PART, COUNTS),
+    "stairs.trust_of": (LOTS_PART, STAIR_PART),
+    "stairjoins.either_of": (LOTS_PART, ONE_STAIR, TWO_STAIR),
+    "stairjoins.both_of": (LOTS_PART, ONE_STAIR, TWO_STAIR),
+    "anyofs.any_of": (LOTS_PART, STAIRS, ("many", 1, not_usable("many", None, 4, True, -1, [1]))),
+    "commons.common_of": (LOTS_PART, ONE_STAIR, TWO_STAIR),
+    "commons.common_all": (LOTS_PART, STAIRS),
+    "partners.partner_of": (LOTS_PART, ONE_STAIR, WISH),
+    "mirrorstairs.mirror_stair": (LOTS_PART, STAIR_PART),
+    "orders.within": (LOTS_PART, ONE_STAIR, TWO_STAIR),
+    "orders.meets": (LOTS_PART, ONE_STAIR, TWO_STAIR, WISH),
+    "orders.first_unmet": (LOTS_PART, ONE_STAIR, TWO_STAIR, WISH),
+    "pricing.cheapest": (LOTS_PART, STAIR_PART, ("prices", (1, 1), not_usable("prices", None, [1, 1], (1,), (True, 1)))),
+    "roles.needed": (LOTS_PART, STAIR_PART),
+    "roles.idle_lots": (LOTS_PART, STAIR_PART),
+    "nesting.nest": (
+        ("words", (("u", 1), ("v", 1)), WRONG_LOTS[:5] + not_usable("words", (("u", 1), ("v", 2)))),
+        ("trust", ("lot", 0, 1), WRONG_TRUST), ("parts", PARTS, not_usable("parts", None, list(PARTS), PARTS[:1])),
+    ),
+}
+
+
+def called(name):
+    file, word = name.split(".")
+    return getattr(importlib.import_module("assentwhole." + file), word)
+
+
+class InterfaceTests(Checks):
+    def test_names_parameters_and_files(self):
+        for name, parts in INTERFACE.items():
+            call = called(name)
+            self.assertEqual(tuple(inspect.signature(call).parameters), tuple(part[0] for part in parts), name)
+            self.assertEqual(call.__module__, "assentwhole." + name.split(".")[0])
+            for parameter in inspect.signature(call).parameters.values():
+                self.assertIs(parameter.default, parameter.empty)
+                self.assertEqual(parameter.kind, parameter.POSITIONAL_OR_KEYWORD)
+
+    def test_by_position_and_by_name_and_again(self):
+        for name, parts in INTERFACE.items():
+            call = called(name)
+            found = call(*[part[1] for part in parts])
+            self.equal(call(**{part[0]: part[1] for part in parts[::-1]}), found)
+            self.equal(call(*[part[1] for part in parts]), found)
+
+    def test_each_wrong_one_is_named(self):
+        for name, parts in INTERFACE.items():
+            for at, (_, _, wrong) in enumerate(parts):
+                good = [part[1] for part in parts]
+                for thing, error in wrong:
+                    self.refused(error, called(name), *good[:at], thing, *good[at + 1:])
+
+    def test_of_several_the_first_is_named(self):
+        for name, parts in INTERFACE.items():
+            for one, two in itertools.combinations(range(len(parts)), 2):
+                for (thing, error), (other, _) in itertools.product(parts[one][2], parts[two][2]):
+                    values = {part[0]: part[1] for part in parts}
+                    values[parts[one][0]] = thing
+                    values[parts[two][0]] = other
+                    self.refused(error, called(name), **values)
+            everything = [part[2][0] for part in parts]
+            self.refused(everything[0][1], called(name), *[thing for thing, _ in everything])
+
+    def test_lists_are_not_changed(self):
+        # Lists within what is refused stay as they are.
+        for name, parts in INTERFACE.items():
+            for at, (_, _, wrong) in enumerate(parts):
+                good = [part[1] for part in parts]
+                for thing, _ in wrong:
+                    told = repr(thing)
+                    with self.assertRaises(ValueError):
+                        called(name)(*good[:at], thing, *good[at + 1:])
+                    self.assertEqual(repr(thing), told)
+
+    def test_things_of_any_kind(self):
+        deep = ()
+        for _ in range(29):
+            deep = (deep,)
+        wide = tuple(range(4999))
+        things = (deep, wide, "x" * 5000, [deep], (deep, [wide[:3]]), ("any", 0, (deep,)), ("least", (deep,)), 10 ** 59)
+        for name, error in (
+            ("lots.check_lots", BadLots), ("counting.check_counts", BadCounts), ("crowds.check_crowd", BadCrowd),
+            ("trustchecks.check_trust", BadTrust), ("stairs.check_stair", BadStair),
+        ):
+            first = [] if name == "lots.check_lots" else [LOTS]
+            for thing in things:
+                with self.assertRaises(error):
+                    called(name)(*first, thing)

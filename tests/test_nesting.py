@@ -1,15 +1,18 @@
 """[37]: nests."""
 
-import itertools
 import random
 
+from assentwhole.commons import common_of
 from assentwhole.errors import BadLots, BadTrust, NotUsable
 from assentwhole.grids import grid_of
 from assentwhole.holding import holds
+from assentwhole.mirrorstairs import mirror_stair
 from assentwhole.nesting import nest
+from assentwhole.partners import partner_of
+from assentwhole.stairjoins import both_of, either_of
 from assentwhole.stairs import stair_of
 from assentwhole.trustchecks import check_trust
-from tests.samples import TWO, Checks, all_counts, random_trust, sizes_of, told_holds
+from tests.samples import TWO, Checks, all_counts, all_stairs, random_trust, sizes_of, told_holds
 
 UNITS = (((("a", 3),), ("lot", 0, 2)), ((("b", 1),), ("lot", 0, 1)))
 UV = (("u", 1), ("v", 1))
@@ -118,15 +121,37 @@ class NestTests(Checks):
         for parts in wrong:
             self.refused(NotUsable("parts"), nest, UV, ("lot", 0, 1), parts)
 
-    def test_nest_of_a_common_is_the_common_of_nests(self):
-        # (G13) for majorities, by the counts of all crowds.
+    def test_joins_of_nests_are_nests_of_joins(self):
+        # (G13): part by part, the common, the mirror and the partner; either and both over the same parts.
+        dice = random.Random(22)
         words = (("u", 1), ("v", 1), ("w", 1))
-        trust = ("any", 2, tuple(("lot", at, 1) for at in range(3)))
-        parts = tuple((((f"n{at}", 3),), ("lot", 0, 2)) for at in range(3))
-        lots, nested = nest(words, trust, parts)
-        stair = stair_of(lots, nested)
-        least = {
-            tuple(max(0, a + b - 3) for a, b in zip(x, y)) for x, y in itertools.product(stair, repeat=2)
-        }
-        lots, common = nest(words, ("any", 1, trust[2]), tuple((there, ("lot", 0, 1)) for there, _ in parts))
-        self.assertTrue(all(holds(lots, common, counts) for counts in least))
+        places = ((("a", 2), ("b", 1)), (("c", 2),), (("d", 1), ("e", 1)))
+
+        def nested(stair, stairs):
+            parts = tuple((there, ("least", part)) for there, part in zip(places, stairs))
+            return stair_of(*nest(words, ("least", stair), parts))
+
+        def some_parts(keep):
+            found = []
+            for there in places:
+                every = [stair for stair in all_stairs(there) if keep(there, stair)]
+                found.append(dice.choice(every))
+            return found
+
+        lots = tuple(lot for there in places for lot in there)
+        every = all_stairs(words)
+        for _ in range(120):
+            one, two, wish = (dice.choice(every) for _ in range(3))
+            first, second = (some_parts(lambda there, stair: stair) for _ in range(2))
+            commons = [common_of(there, x, y) for there, x, y in zip(places, first, second)]
+            wanted = nested(common_of(words, one, two), commons)
+            self.equal(common_of(lots, nested(one, first), nested(two, second)), wanted)
+            for join in (either_of, both_of):
+                self.equal(join(lots, nested(one, first), nested(two, first)), nested(join(words, one, two), first))
+            some = some_parts(lambda there, stair: stair and any(stair[0]))
+            mirrors = [mirror_stair(there, part) for there, part in zip(places, some)]
+            self.equal(mirror_stair(lots, nested(one, some)), nested(mirror_stair(words, one), mirrors))
+            partners = [partner_of(there, x, y) for there, x, y in zip(places, first, some)]
+            if all(partners):
+                wanted = nested(partner_of(words, one, wish), partners)
+                self.equal(partner_of(lots, nested(one, first), nested(wish, some)), wanted)

@@ -6,7 +6,7 @@ from assentwhole.errors import BadCounts, BadStair, BadTrust
 from assentwhole.grids import atoms_of, grid_of
 from assentwhole.stairs import check_stair, stair_holds, stair_of, trust_of
 from tests.samples import (
-    HUGE, LOTS, SMALL_LOTS, TWO, Checks, all_counts, all_stairs, some_trusts, told_holds, told_stair, under,
+    BOTH, HUGE, LOTS, SMALL_LOTS, TWO, Checks, all_counts, all_stairs, some_trusts, told_holds, told_stair, under,
 )
 
 
@@ -15,6 +15,7 @@ class StairTests(Checks):
         self.equal(check_stair(LOTS, ((0, 1), (2, 0))), 2)
         self.refused(BadStair(1), check_stair, LOTS, ((0, 1), (2, 1)))
         self.equal(stair_of(LOTS, ("any", 1, (TWO, ("lot", 1, 1)))), ((0, 1), (2, 0)))
+        self.equal(stair_of(LOTS, BOTH), ((2, 1),))
 
     def test_right_stairs(self):
         for stair in ((), ((0, 0),), ((3, 1),), ((0, 1), (3, 0)), ((1, 1), (2, 0))):

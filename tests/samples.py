@@ -9,6 +9,13 @@ TWO = ("lot", 0, 2)
 BOTH = ("any", 2, (TWO, ("lot", 1, 1)))
 FOUR = (("n", 4),)
 THREE = ("lot", 0, 3)
+ONLY = ("lot", 1, 1)
+ROW = (TWO, None, TWO, TWO, TWO)
+MORE = (BOTH, None, BOTH, BOTH, BOTH)
+PACT = (LOTS, "plain", "own", ((ROW,),), ((),))
+DUO = (LOTS, "plain", "own", ((ROW,), (MORE,)), ((1,), ()))
+SWORN = (FOUR, "sworn", "own", (((THREE, THREE, THREE, THREE, None),),), ((),))
+RULES = ("own", "calm", "bold")
 HUGE = (("big", 10 ** 12), ("one1", 1), ("mid", 1000))
 SMALL_LOTS = (
     (("a", 1),),
@@ -152,9 +159,60 @@ class Houses:
         """The crowds that are in a stair."""
         return {crowd for crowd in self.crowds if any(under(m, self.counts[crowd]) for m in stair)}
 
+    def in_trust(self, trust):
+        """The crowds that are in a trust."""
+        return {crowd for crowd in self.crowds if told_holds(self.lots, trust, self.counts[crowd])}
+
+    def common(self, one, two):
+        """The common of two sets of crowds, by all pairs of them."""
+        least = {a & b for a in one for b in two}
+        return {crowd for crowd in self.crowds if any(crowd & low == low for low in least)}
+
     def stair(self, crowds):
         """The stair of a set of crowds that counts alone decide; None if they do not."""
         counts = {self.counts[crowd] for crowd in crowds}
         if len(crowds) != sum(1 for crowd in self.crowds if self.counts[crowd] in counts):
             return None
         return told_stair(self.lots, lambda row: row in counts)
+
+
+def step_trust(dice, lots):
+    """Some trust that everyone is in, and nobody is not."""
+    while True:
+        trust = random_trust(dice, lots, 2)
+        if told_holds(lots, trust, sizes_of(lots)) and not told_holds(lots, trust, (0,) * len(lots)):
+            return trust
+
+
+def random_pact(dice, lots, manner, rule, charters=3, kinds=1, share=3):
+    """Some pact; about one in share changes is let."""
+    def row():
+        trusts = [step_trust(dice, lots) for _ in range(5)]
+        trusts[1 if manner == "plain" else 4] = None
+        return tuple(trusts)
+
+    rows = tuple(tuple(row() for _ in range(kinds)) for _ in range(charters))
+    changes = tuple(
+        tuple(d for d in range(charters) if d != c and dice.randrange(share) == 0) for c in range(charters)
+    )
+    return lots, manner, rule, rows, changes
+
+
+def some_pacts(many, seed=1, lots=None, kinds=2, manners=("plain", "sworn")):
+    """Small pacts of all manners and rules."""
+    dice = random.Random(seed)
+    for at in range(many):
+        there = SMALL_LOTS[at % len(SMALL_LOTS)] if lots is None else lots
+        for manner in manners:
+            for rule in RULES:
+                yield random_pact(dice, there, manner, rule, dice.randint(1, 4), dice.randint(1, kinds), dice.randint(1, 4))
+
+
+def told_behind(changes, start):
+    """The charters behind start, by the words of the document, over and over."""
+    found = {start}
+    while True:
+        more = found | {d for c in found for d in changes[c]}
+        if more == found:
+            return tuple(sorted(found))
+        found = more

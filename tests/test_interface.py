@@ -4,11 +4,14 @@ import importlib
 import inspect
 import itertools
 
-from assentwhole.errors import BadCounts, BadCrowd, BadLots, BadStair, BadTrust, NotUsable
-from tests.samples import BOTH, LOTS, TWO, Checks
+from assentwhole.errors import (
+    BadCounts, BadCrowd, BadLots, BadPact, BadRoll, BadStair, BadText, BadTrust, NotUsable,
+)
+from tests.samples import BOTH, DUO, LOTS, MORE, PACT, ROW, TWO, Checks
 
 STAIR = ((0, 1), (2, 0))
 CROWD = (((1, 3),), ((0, 1),))
+PACT_TEXT = "manner plain\nrule own\nlot a 3\ncharter x\nrow ask a;vote a;look a;hold a"
 PARTS = (((("c", 3),), ("lot", 0, 2)), ((("d", 1),), ("lot", 0, 1)))
 
 # For each kind of parameter wrong values, each with the error that it raises.
@@ -34,6 +37,17 @@ WRONG_STAIR = (
 )
 WRONG_STAIRS = tuple((thing, NotUsable("stairs")) for thing in (None, [STAIR], STAIR, (STAIR, ((4, 0),))))
 WRONG_TEXT = tuple((thing, NotUsable("text")) for thing in (None, 5, True, ["a"]))
+WRONG_PACT = (
+    (None, BadPact(-1, "shape")), (list(DUO), BadPact(-1, "shape")), ((None,) + DUO[1:], BadLots(-1, "shape")),
+    (DUO[:1] + ("Plain",) + DUO[2:], BadPact(-1, "manner")), (DUO[:2] + (None,) + DUO[3:], BadPact(-1, "rule")),
+    (DUO[:3] + ([(ROW,)], ((),)), BadPact(-1, "charters")), (DUO[:3] + (((ROW,), (list(MORE),)), ()), BadPact(1, "row")),
+    (DUO[:3] + (((ROW,), (MORE[:3] + (("lot", 0, 0), TWO),)), ()), BadPact(1, "look")), (DUO[:4] + ([(), ()],), BadPact(-1, "changes")),
+    (DUO[:4] + (((True,), ()),), BadPact(0, "changes")),
+)
+WRONG_ROLL = (
+    (None, BadRoll(-1)), ([("change", 1)], BadRoll(-1)), ((["change", 1],), BadRoll(0)),
+    ((("change", 1), ("change", True)), BadRoll(1)), ((("do", 0, True, 0, 0),), BadRoll(0)),
+)
 
 
 def not_usable(name, *things):
@@ -47,6 +61,11 @@ ONE_STAIR, TWO_STAIR = ("one", STAIR, WRONG_STAIR), ("two", ((1, 0),), WRONG_STA
 TRUST, STAIR_PART = ("trust", BOTH, WRONG_TRUST), ("stair", STAIR, WRONG_STAIR)
 COUNTS, WISH = ("counts", (2, 1), WRONG_COUNTS), ("wish", ((0, 1),), WRONG_STAIR)
 STAIRS = ("stairs", (STAIR, STAIR), WRONG_STAIRS)
+FIRST, SECOND, ANY_WISH = ("first", TWO, WRONG_TRUST), ("second", BOTH, WRONG_TRUST), ("wish", ("lot", 0, 0), WRONG_TRUST)
+PACT_PART, ROLL = ("pact", DUO, WRONG_PACT), ("roll", (("change", 1),), WRONG_ROLL)
+CHARTER = ("charter", 1, not_usable("charter", None, 2, True, -1, "1", [1]))
+KIND = ("kind", 0, not_usable("kind", None, 1, False, -1, "0", (0,)))
+STEP = ("step", "look", not_usable("step", None, "echo", "Look", True, ["look"]))
 
 INTERFACE = {
     "lots.check_lots": (("thing", LOTS, WRONG_LOTS),),
@@ -107,6 +126,25 @@ INTERFACE = {
         ("words", (("u", 1), ("v", 1)), WRONG_LOTS[:5] + not_usable("words", (("u", 1), ("v", 2)))),
         ("trust", ("lot", 0, 1), WRONG_TRUST), ("parts", PARTS, not_usable("parts", None, list(PARTS), PARTS[:1])),
     ),
+    "papers.paper": (LOTS_PART, FIRST, SECOND, ANY_WISH),
+    "paperchecks.is_paper": (LOTS_PART, FIRST, SECOND, ANY_WISH, ("thing", ("closed", (("wish",),)), ())),
+    "pactchecks.check_pact": (("thing", DUO, WRONG_PACT),),
+    "rolls.check_roll": (PACT_PART, ("thing", (("change", 1),), WRONG_ROLL)),
+    "rolls.charter_of": (PACT_PART, ROLL),
+    "rolls.follows": (PACT_PART, ROLL),
+    "pactparts.kind_of": (PACT_PART, ("reign", 7, not_usable("reign", None, 0, True, -1, "1", (1,)))),
+    "pactparts.row_of": (PACT_PART, CHARTER, KIND),
+    "pactparts.step_stair": (PACT_PART, CHARTER, KIND, STEP),
+    "pactreading.read_pact": (("text", PACT_TEXT, WRONG_TEXT + (("", BadText(1, "place")),)),),
+    "pacttexts.pact_text": (PACT_PART, ("words", ("x", "y"), not_usable("words", None, ["x", "y"], ("x",), ("x", "x")))),
+    "comings.come_to": (PACT_PART,),
+    "comings.behind": (PACT_PART, CHARTER),
+    "pairings.pairs_of": (PACT_PART,),
+    "entrylists.entries_of": (PACT_PART,),
+    "entrylists.entry_stair": (
+        PACT_PART, ("entry", ("vote", 0, 0, 1, 0), not_usable("entry", None, ["vote", 0, 0, 1, 0], ("vote", 0, 0, True, 0))),
+    ),
+    "splitting.splitters": (PACT_PART,),
 }
 
 
@@ -147,8 +185,8 @@ class InterfaceTests(Checks):
                     values[parts[one][0]] = thing
                     values[parts[two][0]] = other
                     self.refused(error, called(name), **values)
-            everything = [part[2][0] for part in parts]
-            self.refused(everything[0][1], called(name), *[thing for thing, _ in everything])
+            everything = [part[2][0][0] if part[2] else part[1] for part in parts]
+            self.refused(parts[0][2][0][1], called(name), *everything)
 
     def test_lists_are_not_changed(self):
         # Lists within what is refused stay as they are.
@@ -169,9 +207,11 @@ class InterfaceTests(Checks):
         things = (deep, wide, "x" * 5000, [deep], (deep, [wide[:3]]), ("any", 0, (deep,)), ("least", (deep,)), 10 ** 59)
         for name, error in (
             ("lots.check_lots", BadLots), ("counting.check_counts", BadCounts), ("crowds.check_crowd", BadCrowd),
-            ("trustchecks.check_trust", BadTrust), ("stairs.check_stair", BadStair),
+            ("trustchecks.check_trust", BadTrust), ("stairs.check_stair", BadStair), ("pactchecks.check_pact", BadPact),
+            ("rolls.check_roll", BadRoll),
         ):
-            first = [] if name == "lots.check_lots" else [LOTS]
+            ahead = {"lots.check_lots": [], "pactchecks.check_pact": [], "rolls.check_roll": [PACT]}
+            first = ahead.get(name, [LOTS])
             for thing in things:
                 with self.assertRaises(error):
                     called(name)(*first, thing)

@@ -34,7 +34,7 @@ BARRED_WORDS = re.compile(
 )
 BARRED_NODES = (
     ast.Global, ast.AsyncFunctionDef, ast.AsyncFor, ast.AsyncWith, ast.Await, ast.Yield, ast.YieldFrom, ast.Div,
-    ast.MatMult, ast.NamedExpr, ast.Lambda, ast.Try, ast.With, ast.Match, ast.AnnAssign,
+    ast.MatMult, ast.NamedExpr, ast.Lambda, ast.With, ast.Match, ast.AnnAssign,
 )
 
 
@@ -304,6 +304,15 @@ class CallTests(unittest.TestCase):
             if isinstance(node.func, ast.Name) and node.func.id in BUILTINS:
                 for keyword in node.keywords:
                     self.assertIn(keyword.arg, ("key", "reverse", "default", "start", "strict"), (name, node.lineno))
+
+    def test_own_errors_alone_are_caught(self):
+        own = {node.name for node in TREES["errors.py"].body if isinstance(node, ast.ClassDef)}
+        for name, node in nodes(ast.Try):
+            self.assertFalse(node.finalbody, (name, node.lineno))
+            for handler in node.handlers:
+                self.assertIsInstance(handler.type, ast.Name, (name, node.lineno))
+                self.assertIn(handler.type.id, own, (name, node.lineno))
+                self.assertIsNone(handler.name)
 
     def test_raise_creates_its_error(self):
         for name, node in nodes(ast.Raise):

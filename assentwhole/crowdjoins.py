@@ -28,16 +28,31 @@ def less_houses(lots, one, two):
     return tuple(shared_spans(one[at], spans) for at, spans in enumerate(rest))
 
 
+def joined_houses(one, two):
+    """The crowd of the houses in one or in two, both known as crowds."""
+    return tuple(joined_spans(here + there) for here, there in zip(one, two))
+
+
+def shared_houses(one, two):
+    """The crowd of the houses in one and in two, both known as crowds."""
+    return tuple(shared_spans(here, there) for here, there in zip(one, two))
+
+
+def has_houses(crowd):
+    """Whether a crowd that is known as one has at least one house."""
+    return any(len(spans) > 0 for spans in crowd)
+
+
 def crowd_either(lots, one, two):
     """The crowd of the houses in one or in two."""
     check_two(lots, one, two)
-    return tuple(joined_spans(here + there) for here, there in zip(one, two))
+    return joined_houses(one, two)
 
 
 def crowd_both(lots, one, two):
     """The crowd of the houses in one and in two."""
     check_two(lots, one, two)
-    return tuple(shared_spans(here, there) for here, there in zip(one, two))
+    return shared_houses(one, two)
 
 
 def crowd_less(lots, one, two):
@@ -49,4 +64,4 @@ def crowd_less(lots, one, two):
 def crowd_within(lots, one, two):
     """Whether each house of one is in two."""
     check_two(lots, one, two)
-    return less_houses(lots, one, two) == no_houses(lots)
+    return not has_houses(less_houses(lots, one, two))

@@ -5,8 +5,10 @@ import inspect
 import itertools
 
 from assentwhole.errors import (
-    BadCounts, BadCrowd, BadLots, BadPact, BadRoll, BadStair, BadText, BadTrust, NotUsable,
+    BadCounts, BadCrowd, BadLots, BadPact, BadRoll, BadStair, BadText, BadTrust, NotFor, NotUsable,
 )
+from assentwhole.plainruns import Plain
+from assentwhole.swornruns import Sworn
 from tests.samples import BOTH, DUO, LOTS, MORE, PACT, ROW, TWO, Checks
 
 STAIR = ((0, 1), (2, 0))
@@ -65,6 +67,11 @@ FIRST, SECOND, ANY_WISH = ("first", TWO, WRONG_TRUST), ("second", BOTH, WRONG_TR
 PACT_PART, ROLL = ("pact", DUO, WRONG_PACT), ("roll", (("change", 1),), WRONG_ROLL)
 CHARTER = ("charter", 1, not_usable("charter", None, 2, True, -1, "1", [1]))
 KIND = ("kind", 0, not_usable("kind", None, 1, False, -1, "0", (0,)))
+OTHER = ("other", 1, not_usable("other", None, 2, True, -1, "1", [1]))
+RUN = ("run", Plain(DUO), not_usable("run", None, DUO, 5, [Plain(DUO)], Plain))
+TEAM = ("crowd", (((1, 3),), ((0, 1),)), WRONG_CROWD + not_usable("crowd", ((), ())))
+NO_CHANGE = ("deed", ("do", 0, 1, 0, 5), not_usable("deed", None, ("change", 0), ["do", 0, 1, 0, 5], ("do", 0, True, 0, 5)))
+SWORN_DUO = (LOTS, "sworn", "own", (((TWO, TWO, TWO, TWO, None),),), ((),))
 STEP = ("step", "look", not_usable("step", None, "echo", "Look", True, ["look"]))
 
 INTERFACE = {
@@ -145,6 +152,39 @@ INTERFACE = {
         PACT_PART, ("entry", ("vote", 0, 0, 1, 0), not_usable("entry", None, ["vote", 0, 0, 1, 0], ("vote", 0, 0, True, 0))),
     ),
     "splitting.splitters": (PACT_PART,),
+    "waking.enough": (PACT_PART, CHARTER, KIND),
+    "waking.wakers": (PACT_PART,),
+    "waking.stoppers": (PACT_PART,),
+    "outwaking.outwakers": (PACT_PART,),
+    "mislooking.mislookers": (PACT_PART,),
+    "mislooking.misholders": (
+        ("pact", DUO, WRONG_PACT + ((SWORN_DUO, NotFor("manner")), (DUO[:2] + ("calm",) + DUO[3:], NotFor("rule")))),
+    ),
+    "carriage.carriers": (PACT_PART, CHARTER, OTHER),
+    "plainruns.Plain": (("pact", DUO, WRONG_PACT + ((SWORN_DUO, NotFor("manner")),)),),
+    "plainplays.play_plain": (PACT_PART, ("moves", (("open", 0),), not_usable("moves", None, [], "open"))),
+    "swornruns.Sworn": (("pact", SWORN_DUO, WRONG_PACT), ("liars", ((), ()), WRONG_CROWD)),
+    "swornplays.play_sworn": (
+        ("pact", SWORN_DUO, WRONG_PACT), ("liars", (((0, 1),), ()), WRONG_CROWD),
+        ("moves", (("open", 0),), not_usable("moves", None, [], "open")),
+    ),
+    "stretches.stretch": (RUN, TEAM),
+    "plans.plan_of": (RUN, TEAM, NO_CHANGE),
+    "serving.serve": (RUN, TEAM, NO_CHANGE),
+    "carrying.carry_to": (RUN, TEAM, CHARTER),
+    "carrying.carry": (RUN, TEAM, ("route", (0, 1), not_usable("route", None, [0, 1], (), (1,), (False,), (0, 2)))),
+}
+
+# The methods that the interface lists for a class, each with its parameters.
+METHODS = {
+    Plain: {
+        "do": ("move",), "moves": (), "pact": (), "desks": (), "rolls": (), "settled": (), "parted": (), "awake": (),
+        "fallen": (), "looks": (),
+    },
+    Sworn: {
+        "do": ("move",), "moves": (), "pact": (), "liars": (), "desks": (), "laid": (), "locked": (), "settled": (),
+        "parted": (), "awake": (), "fallen": (), "looks": (),
+    },
 }
 
 
@@ -162,6 +202,16 @@ class InterfaceTests(Checks):
             for parameter in inspect.signature(call).parameters.values():
                 self.assertIs(parameter.default, parameter.empty)
                 self.assertEqual(parameter.kind, parameter.POSITIONAL_OR_KEYWORD)
+
+    def test_methods_stand_in_their_class(self):
+        for kind, methods in METHODS.items():
+            for name, parts in methods.items():
+                self.assertIn(name, vars(kind))
+                self.assertEqual(tuple(inspect.signature(getattr(kind, name)).parameters), ("self",) + parts)
+        run = Plain(PACT)
+        self.assertIsNone(run.do(move=("open", 0)))
+        vow = Sworn(liars=((), ()), pact=SWORN_DUO)
+        self.assertIsNone(vow.do(move=("open", 0)))
 
     def test_by_position_and_by_name_and_again(self):
         for name, parts in INTERFACE.items():

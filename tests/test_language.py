@@ -11,7 +11,7 @@ PACKAGE = os.path.join(HERE, "assentwhole")
 
 BUILTINS = set(
     "len range enumerate zip min max sum abs sorted reversed int str bool bytes list tuple dict set isinstance "
-    "ord repr any all divmod map iter next Exception ValueError TypeError KeyError IndexError LookupError "
+    "ord repr any all divmod map iter next super Exception ValueError TypeError KeyError IndexError LookupError "
     "ZeroDivisionError".split()
 )
 METHODS = set(
@@ -34,7 +34,7 @@ BARRED_WORDS = re.compile(
 )
 BARRED_NODES = (
     ast.Global, ast.AsyncFunctionDef, ast.AsyncFor, ast.AsyncWith, ast.Await, ast.Yield, ast.YieldFrom, ast.Div,
-    ast.MatMult, ast.NamedExpr, ast.Lambda, ast.With, ast.Match, ast.AnnAssign,
+    ast.MatMult, ast.NamedExpr, ast.With, ast.Match, ast.AnnAssign,
 )
 
 
@@ -132,6 +132,15 @@ class ImportTests(unittest.TestCase):
             for name in free:
                 del needs[name]
 
+    def check_value(self, value, seen, name):
+        """Plain values, or a dict from plain values to functions that stand above."""
+        if isinstance(value, ast.Dict) and all(isinstance(part, ast.Name) for part in value.values):
+            for key, part in zip(value.keys, value.values):
+                ast.literal_eval(key)
+                self.assertIn(part.id, seen, name)
+        else:
+            ast.literal_eval(value)
+
     def test_what_stands_at_module_level(self):
         for name, tree in TREES.items():
             seen = []
@@ -144,7 +153,7 @@ class ImportTests(unittest.TestCase):
                     seen += [alias.name for alias in node.names]
                 elif isinstance(node, ast.Assign):
                     self.assertEqual(len(node.targets), 1)
-                    ast.literal_eval(node.value)
+                    self.check_value(node.value, seen, name)
                     seen.append(node.targets[0].id)
                 else:
                     seen.append(node.name)
@@ -176,9 +185,76 @@ class NameTests(unittest.TestCase):
             if node.id == "_":
                 self.assertIsInstance(node.ctx, ast.Store, name)
 
+    @staticmethod
+    def is_super_init(node):
+        """Whether node is super().__init__."""
+        if not isinstance(node, ast.Attribute) or node.attr != "__init__" or not isinstance(node.value, ast.Call):
+            return False
+        return isinstance(node.value.func, ast.Name) and node.value.func.id == "super" and not node.value.args
+
+    def test_super_stands_in_init_alone(self):
+        fine = set()
+        for name, node in nodes(ast.FunctionDef):
+            if node.name == "__init__":
+                fine |= {id(part.value.func) for part in ast.walk(node) if self.is_super_init(part)}
+        for name, node in nodes(ast.Name):
+            if node.id == "super":
+                self.assertIn(id(node), fine, name)
+
+    def test_a_name_is_not_a_method_and_an_attribute_in_a_family(self):
+        classes = {node.name: node for _, node in nodes(ast.ClassDef)}
+        for node in classes.values():
+            family = [node] + [classes[base.id] for base in node.bases if base.id in classes]
+            methods = {part.name for one in family for part in one.body if isinstance(part, ast.FunctionDef)}
+            stored = {
+                part.attr for one in family for part in ast.walk(one)
+                if isinstance(part, ast.Attribute) and isinstance(part.ctx, ast.Store)
+            }
+            self.assertFalse(methods & stored, node.name)
+
+    def test_lambdas(self):
+        lines = [(name, node.lineno) for name, node in nodes(ast.Lambda)]
+        self.assertEqual(len(lines), len(set(lines)))
+        for name, node in nodes(ast.Lambda):
+            self.assertFalse(node.args.defaults, name)
+
+    def test_tables_are_only_read(self):
+        # A list or dict at module level is not passed on; what it has is given a name before it is called.
+        for name, tree in TREES.items():
+            tables = {
+                node.targets[0].id for node in tree.body
+                if isinstance(node, ast.Assign) and isinstance(node.value, (ast.Dict, ast.List))
+            }
+            fine = set()
+            for node in ast.walk(tree):
+                if isinstance(node, ast.Subscript) and isinstance(node.ctx, ast.Load):
+                    fine.add(id(node.value))
+                if isinstance(node, ast.Attribute) and node.attr in ("get", "index", "items"):
+                    fine.add(id(node.value))
+                if isinstance(node, ast.Compare):
+                    fine |= {id(part) for part in node.comparators}
+                if isinstance(node, ast.Call):
+                    self.assertNotIsInstance(node.func, ast.Subscript, (name, node.lineno))
+            for node in ast.walk(tree):
+                if isinstance(node, ast.Name) and node.id in tables and isinstance(node.ctx, ast.Load):
+                    self.assertIn(id(node), fine, (name, node.lineno))
+
+    def test_what_a_loop_goes_over_is_not_changed_in_it(self):
+        growers = ("append", "extend", "insert", "pop", "remove", "clear", "update", "setdefault")
+        for name, node in nodes(ast.For):
+            if not isinstance(node.iter, (ast.Name, ast.Attribute)):
+                continue
+            told = ast.dump(node.iter)
+            for part in ast.walk(node):
+                if isinstance(part, ast.Attribute) and part.attr in growers:
+                    self.assertNotEqual(ast.dump(part.value), told, (name, node.lineno))
+
     def test_attributes(self):
         written = {}
+        above = {id(call.func) for _, call in nodes(ast.Call) if self.is_super_init(call.func)}
         for name, node in nodes(ast.Attribute):
+            if id(node) in above:
+                continue
             self.assertNotRegex(node.attr, r"^__", name)
             if isinstance(node.ctx, ast.Store):
                 self.assertNotIn(node.attr, BARRED_ATTRIBUTES, name)
@@ -197,7 +273,8 @@ class NameTests(unittest.TestCase):
             self.assertFalse(own & stored, (name, node.name))
         self.assertFalse(methods & METHODS)
         for name, node in nodes(ast.Attribute):
-            self.assertIn(node.attr, set(written) | methods | METHODS, (name, node.lineno))
+            if id(node) not in above:
+                self.assertIn(node.attr, set(written) | methods | METHODS, (name, node.lineno))
 
 
 class ValueTests(unittest.TestCase):

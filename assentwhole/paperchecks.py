@@ -1,7 +1,7 @@
 """Papers checked."""
 
 from assentwhole.countrules import counts_fault
-from assentwhole.lots import check_lots, sizes_of
+from assentwhole.lots import sizes_of
 from assentwhole.papercases import PaperCase
 from assentwhole.trustchecks import check_trust
 from assentwhole.values import is_tuple
@@ -49,7 +49,6 @@ def accepts(case, thing):
 
 def is_paper(lots, first, second, wish, thing):
     """Whether thing is a paper for first, second and wish."""
-    check_lots(lots)
     for trust in (first, second, wish):
         check_trust(lots, trust)
     return accepts(PaperCase(sizes_of(lots), first, second, wish), thing)

@@ -1,6 +1,6 @@
 """Papers: why two trusts meet for a wish, or counts at which they do not."""
 
-from assentwhole.lots import check_lots, sizes_of
+from assentwhole.lots import sizes_of
 from assentwhole.papercases import PLACES, PaperCase
 from assentwhole.trustchecks import check_trust
 
@@ -41,7 +41,6 @@ def paper_of(case):
 
 def paper(lots, first, second, wish):
     """A paper, open or closed, that is_paper accepts for these."""
-    check_lots(lots)
     for trust in (first, second, wish):
         check_trust(lots, trust)
     return paper_of(PaperCase(sizes_of(lots), first, second, wish))

@@ -32,7 +32,7 @@ class RunBook:
 
     def is_asleep(self, crowd):
         """Whether some house of crowd is not awake."""
-        return self.is_stretch and has_houses(less_houses(self.lots, crowd, self.up))
+        return has_houses(less_houses(self.lots, crowd, self.up))
 
     def has_liars(self, crowd):
         """Whether some house of crowd is a liar."""

@@ -70,7 +70,7 @@ class PactReadingTests(Checks):
         lines = [""] + FULL.split("\n")
         for at, line in enumerate(lines):
             ahead = "\n".join(lines[1:at + 1]) + ("\n" if at else "")
-            for word in words + ("old", "of", "=", "Row", "rows", "ro", "charter=", "row;", "trust=t", "1"):
+            for word in words + ("old", "of", "=", "Row", "rows", "ro", "charter=", "row;", "trust=t", "1", "x", ";"):
                 right = word in follow[line.split(" ")[0]]
                 self.bad(at, "line" if right else "place", ahead + word)
                 self.bad(at, "line" if right else "place", ahead + "  " + word + "  ")

@@ -145,6 +145,19 @@ class PlainRunTests(Runs):
             run = play_plain(PACT, two + more + (("answer", 5, crowd), ("take", 5, crowd, known)))
             self.equal(run.rolls()[-1], (5, len(base), base))
 
+    def test_the_greatest_reign_is_best_though_its_roll_is_not_the_least(self):
+        # Two rolls of one length: the lesser one is of the lesser reign.
+        moves = ONE + (("return", house(1), 0), ("answer", 2, RIGHT), ("take", 2, RIGHT, None), ("write", 2, NEXT))
+        moves += (("store", 2, 1, RIGHT), ("answer", 3, ALL), ("take", 3, ALL, None), ("open", 0), ("tell", 0, ALL), ("show", 0))
+        run = play_plain(PACT, moves)
+        self.equal(run.rolls()[2], (3, 1, (NEXT,)))
+        self.equal(run.looks(), (("desk", (NEXT,), False),))
+        # A longer roll of a lesser reign is no better either.
+        moves = (("answer", 1, LEFT), ("take", 1, LEFT, None), ("write", 1, DEED), ("write", 1, DEED), ("store", 1, 2, LEFT))
+        moves += (("return", house(1), 0), ("answer", 2, RIGHT), ("take", 2, RIGHT, None), ("write", 2, NEXT), ("store", 2, 1, RIGHT))
+        run = play_plain(PACT, moves + (("answer", 3, ALL), ("take", 3, ALL, (1, 2))))
+        self.equal(run.rolls()[2], (3, 1, (NEXT,)))
+
     def test_answers_are_those_of_their_time(self):
         # What is stored behind the answer does not count; a later answer counts instead of an earlier one.
         stale = ONE[:3] + (("answer", 2, RIGHT), ("return", RIGHT, 3), ("store", 1, 1, RIGHT))

@@ -243,6 +243,11 @@ class SwornRunTests(Runs):
         run = play_sworn(RING[:2] + ("calm",) + RING[3:], NOBODY, begun() + agreed((TO_1,)) + begun(r=2, base=(TO_1,)))
         self.good(run, ("echo", 2, (TO_1,), (TO_1, TO_0), EVERY))
         self.bad(run, "rule", ("echo", 2, (TO_1,), (TO_1, TO_0, TO_1), EVERY))
+        # By own, too, though nothing of the new reign is settled yet.
+        run = play_sworn(RING, NOBODY, begun() + agreed(()) + agreed((TO_1, DEED)) + begun(r=2, base=(TO_1, DEED)))
+        self.good(run, ("echo", 2, (TO_1, DEED), (TO_1, DEED, NEXT), EVERY))
+        self.bad(run, "rule", ("echo", 2, (TO_1, DEED), (TO_1, DEED, NEXT, TO_0), EVERY))
+        self.bad(run, "line", ("echo", 2, (TO_1, DEED), (TO_1, DEED, TO_0), EVERY))
         # Locked, but not settled, in the reign ahead.
         run = play_sworn(RING[:2] + ("calm",) + RING[3:], NOBODY, begun() + (("echo", 1, (), (TO_1,), EVERY), ("lock", 1, (), (TO_1,), part(0, 2))))
         self.good(run, *begun(r=2, base=(TO_1,)))

@@ -26,8 +26,7 @@ def narrow(book, old, crowd):
     book.now = old.now
     book.up = crowd
     book.is_stretch = True
-    for reign in old.used() + list(old.gone):
-        book.gone[reign] = True
+    book.gone = {reign: True for reign in old.used() + list(old.gone)}
 
 
 def stretch(run, crowd):

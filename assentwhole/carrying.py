@@ -1,55 +1,12 @@
 """Moves by which a crowd carries the pact to another charter, or along a route."""
 
+from assentwhole.carts import Cart
 from assentwhole.deeds import charter_told
 from assentwhole.errors import NotFor, NotUsable
 from assentwhole.pactparts import require_charter
-from assentwhole.plans import free_reign, least_kind, suffices
+from assentwhole.plans import least_kind, suffices
 from assentwhole.stretches import require_run, require_team
 from assentwhole.values import is_number_to
-
-
-class Cart:
-    """Moves of one crowd that are put together, and the reign, base and roll that they lead to."""
-
-    def __init__(self, book, crowd):
-        self.book = book
-        self.crowd = crowd
-        self.reign = book.top_promise(crowd)
-        self.base = ()
-        self.roll = book.best_roll(crowd)
-        self.sworn = book.base_pact[1] == "sworn"
-        self.told = []
-
-    def begin(self, kind):
-        """A new reign of this kind begins with the roll."""
-        self.reign = free_reign(self.book, self.reign, kind)
-        self.base = self.roll
-        self.told.append(("answer", self.reign, self.crowd))
-        if self.sworn:
-            self.told.append(("lay", self.reign, self.crowd, None, self.base))
-            self.echo()
-        else:
-            self.told.append(("take", self.reign, self.crowd, None))
-
-    def echo(self):
-        """The crowd echoes the roll."""
-        self.told.append(("echo", self.reign, self.base, self.roll, self.crowd))
-
-    def keep(self):
-        """The desks of the crowd get the roll."""
-        if self.sworn:
-            self.told.append(("lock", self.reign, self.base, self.roll, self.crowd))
-        else:
-            self.told.append(("store", self.reign, len(self.roll), self.crowd))
-
-    def change(self, charter):
-        """The reign goes on to charter, and the desks get this change."""
-        self.roll = self.roll + (("change", charter),)
-        if self.sworn:
-            self.echo()
-        else:
-            self.told.append(("write", self.reign, ("change", charter)))
-        self.keep()
 
 
 def begun_from(book, crowd, charter):

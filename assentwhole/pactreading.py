@@ -33,7 +33,7 @@ class PactReader:
         self.rule = None
         self.lots = []
         self.trusts = []
-        self.words = []
+        self.charter_words = []
         self.rows = []
         self.changes = {}
 
@@ -100,9 +100,9 @@ class PactReader:
 
     def take_charter(self, word):
         """The beginning of a charter, whose rows follow."""
-        if not is_word(word) or word in self.words:
+        if not is_word(word) or word in self.charter_words:
             return False
-        self.words.append(word)
+        self.charter_words.append(word)
         self.rows.append([])
         return True
 
@@ -127,9 +127,9 @@ class PactReader:
         if len(words) < 4 or words[2] != "to":
             return False
         named = [words[1]] + words[3:]
-        if not all(word in self.words for word in named) or len(set(named)) < len(named):
+        if not all(word in self.charter_words for word in named) or len(set(named)) < len(named):
             return False
-        places = [self.words.index(word) for word in named]
+        places = [self.charter_words.index(word) for word in named]
         if places[0] in self.changes:
             return False
         self.changes[places[0]] = tuple(sorted(places[1:]))
@@ -163,4 +163,4 @@ def read_pact(text):
         raise BadText(len(lines), "place")
     pact = reader.told_pact()
     check_pact(pact)
-    return pact, tuple(reader.words)
+    return pact, tuple(reader.charter_words)

@@ -1,9 +1,8 @@
 """The partner of a stair for a wish."""
 
+from assentwhole.clauses import clauses_stair
 from assentwhole.countrules import is_below
 from assentwhole.lots import sizes_of
-from assentwhole.pointgrids import PointGrid
-from assentwhole.stairmaking import least_points
 from assentwhole.stairs import check_stair
 
 
@@ -17,19 +16,14 @@ def needed_with(sizes, member, wished):
     )
 
 
-def columns_over(sizes, rows):
-    """For each lot the ascending numbers that rows of counts have there, and 0."""
-    return [sorted(set([0] + [row[at] for row in rows])) for at in range(len(sizes))]
+def partner_clauses(sizes, one, wish):
+    """For each member of one the least counts whose common with it is in wish."""
+    return [[needed_with(sizes, member, low) for low in wish if is_below(low, member)] for member in one]
 
 
 def partner_stair(sizes, one, wish):
     """The stair of the partner of what are known to be stairs."""
-    stairs = [[needed_with(sizes, member, low) for low in wish if is_below(low, member)] for member in one]
-    grid = PointGrid(columns_over(sizes, [row for stair in stairs for row in stair]))
-    points = grid.whole
-    for stair in stairs:
-        points &= least_points(grid, stair)
-    return grid.lowest(points)
+    return clauses_stair(len(sizes), partner_clauses(sizes, one, wish))
 
 
 def partner_of(lots, one, wish):

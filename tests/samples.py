@@ -39,6 +39,8 @@ def same(one, two):
         return False
     if isinstance(one, (tuple, list)):
         return len(one) == len(two) and all(same(a, b) for a, b in zip(one, two))
+    if hasattr(one, "text_of"):
+        return same(one.words(), two.words()) and all(same(one.text_of(word), two.text_of(word)) for word in one.words())
     if hasattr(one, "desks"):
         return all(same(getattr(one, name)(), getattr(two, name)()) for name in ("moves", "desks", "settled", "awake"))
     return one == two

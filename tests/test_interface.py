@@ -5,11 +5,15 @@ import inspect
 import itertools
 
 from assentwhole.errors import (
-    BadCounts, BadCrowd, BadLots, BadPact, BadRoll, BadStair, BadText, BadTrust, NotFor, NotUsable,
+    BadCounts, BadCrowd, BadLots, BadPact, BadRoll, BadScheme, BadStair, BadText, BadTrust, NotFor, NotUsable,
 )
+from assentwhole.plainplays import play_plain
 from assentwhole.plainruns import Plain
+from assentwhole.shelves import Shelf
+from assentwhole.swornplays import play_sworn
 from assentwhole.swornruns import Sworn
 from tests.samples import BOTH, DUO, LOTS, MORE, PACT, ROW, TWO, Checks
+from tests.test_document import told_names
 
 STAIR = ((0, 1), (2, 0))
 CROWD = (((1, 3),), ((0, 1),))
@@ -73,6 +77,28 @@ TEAM = ("crowd", (((1, 3),), ((0, 1),)), WRONG_CROWD + not_usable("crowd", ((), 
 NO_CHANGE = ("deed", ("do", 0, 1, 0, 5), not_usable("deed", None, ("change", 0), ["do", 0, 1, 0, 5], ("do", 0, True, 0, 5)))
 SWORN_DUO = (LOTS, "sworn", "own", (((TWO, TWO, TWO, TWO, None),),), ((),))
 STEP = ("step", "look", not_usable("step", None, "echo", "Look", True, ["look"]))
+FALL = ("fall", (((0, 1),), ()), WRONG_CROWD)
+SOME_CROWD = ("crowd", (((1, 3),), ((0, 1),)), WRONG_CROWD + not_usable("crowd", ((), ())))
+PACT_WISH = ("wish", ("lot", 0, 1), WRONG_TRUST + not_usable("wish", ("lot", 0, 0), ("spare", ())))
+KEEP = ("keep", TWO, WRONG_TRUST + not_usable("keep", ("lot", 0, 0), ("lot", 0, 4), ("any", 1, ())))
+MANNER = ("manner", "plain", not_usable("manner", None, "Plain", "own", True, ["plain"]))
+SWORN_PACT = ("pact", SWORN_DUO, WRONG_PACT)
+ZERO = ("charter", 0, not_usable("charter", None, 2, False, -1, "0", [0]))
+UNITS = (("u", 1), ("v", 1))
+ONE_UNIT = ("lot", 0, 1)
+UNIT_PACT = (UNITS, "plain", "bold", (((ONE_UNIT, None, ONE_UNIT, ONE_UNIT, ONE_UNIT),),), ((),))
+TRIPLES = (((("c", 3),), TWO, TWO), ((("d", 1),), ONE_UNIT, ONE_UNIT))
+# Each machine stays in its one state; a client ends as it begins.
+CELL = tuple(((0, (), False),) for _ in range(3))
+SCHEME = (1, 1, 1, ((CELL,), (CELL[:1] + (((0, (), True),),) + CELL[2:],), (CELL[:2] + (((0, (), True),),),)))
+WRONG_SCHEME = (
+    (None, BadScheme(-1, "shape")), (list(SCHEME), BadScheme(-1, "shape")), ((True,) + SCHEME[1:], BadScheme(-1, "shape")),
+    (SCHEME[:3] + (SCHEME[3][:2],), BadScheme(-1, "shape")), (SCHEME[:3] + (((CELL[:2] + (([0, (), False],),),),) + SCHEME[3][1:],), BadScheme(2, "shape")),
+    (SCHEME[:3] + (SCHEME[3][1:2] + SCHEME[3][1:],), BadScheme(1, "end")),
+)
+SCHEME_PART = ("scheme", SCHEME, WRONG_SCHEME)
+SHELF = Shelf()
+SHELF.put("p", PACT_TEXT)
 
 INTERFACE = {
     "lots.check_lots": (("thing", LOTS, WRONG_LOTS),),
@@ -173,6 +199,56 @@ INTERFACE = {
     "serving.serve": (RUN, TEAM, NO_CHANGE),
     "carrying.carry_to": (RUN, TEAM, CHARTER),
     "carrying.carry": (RUN, TEAM, ("route", (0, 1), not_usable("route", None, [0, 1], (), (1,), (False,), (0, 2)))),
+    "leading.lead_out": (RUN, TEAM, NO_CHANGE),
+    "splitcourses.fewest_reigns": (PACT_PART, FALL),
+    "splitcourses.split_course": (PACT_PART, FALL),
+    "stuckcourses.stuck_course": (PACT_PART, SOME_CROWD),
+    "lookcourses.look_course": (PACT_PART, FALL),
+    "lookcourses.head_course": (PACT_PART, FALL),
+    "verdicts.verdict": (PACT_PART, FALL),
+    "verdicts.is_verdict": (PACT_PART, FALL, ("thing", ("one", ()), ())),
+    "wakeverdicts.wake_verdict": (PACT_PART, SOME_CROWD),
+    "wakeverdicts.is_wake_verdict": (PACT_PART, SOME_CROWD, ("thing", ("wakes", (0, 0)), ())),
+    "sufficing.suffice": (PACT_PART, PACT_WISH, STEP, CHARTER),
+    "echoing.may_echo": (SWORN_PACT, PACT_WISH, ZERO, KIND),
+    "bearing.bears": (PACT_PART, PACT_WISH),
+    "bearing.first_breach": (PACT_PART, PACT_WISH),
+    "havings.can_be": (LOTS_PART, PACT_WISH, KEEP),
+    "havings.least_pact": (LOTS_PART, MANNER, PACT_WISH, KEEP),
+    "widening.widened": (PACT_PART, PACT_WISH),
+    "widening.is_full": (PACT_PART, PACT_WISH),
+    "lones.lone_charters": (PACT_PART, PACT_WISH),
+    "joints.joined": (PACT_PART, ZERO, OTHER),
+    "safechanges.safe_changes": (PACT_PART, PACT_WISH),
+    "routes.route_of": (PACT_PART, PACT_WISH, ZERO, OTHER),
+    "routes.two_steps": (PACT_PART, PACT_WISH, ZERO, OTHER),
+    "nestpacts.nest_pact": (
+        ("pact", UNIT_PACT, WRONG_PACT + not_usable("pact", DUO)), ("parts", TRIPLES, not_usable("parts", None, list(TRIPLES), TRIPLES[:1])),
+    ),
+    "schemes.check_scheme": (("thing", SCHEME, WRONG_SCHEME),),
+    "schemes.run_scheme": (
+        SCHEME_PART, ("liars", (0,), not_usable("liars", None, [0], (1,), (False,))), ("moves", (("begin", 0),), not_usable("moves", None, [], "begin")),
+    ),
+    "schemes.runs_alone": (
+        SCHEME_PART, ("crowd", (0,), not_usable("crowd", None, [0], (1,), (False,))), ("client", 1, not_usable("client", None, 2, True)),
+        ("thing", (("begin", 1),), ()),
+    ),
+    "pasting.paste": (
+        SCHEME_PART, MANNER, ("one", ((0,), (("begin", 0),)), not_usable("one", None, [], ((0,), ()), ((0,), (("begin", 1),)))),
+        ("two", ((0,), (("begin", 1),)), not_usable("two", None, [], ((0,), (("begin", 0),)), ((0,), (("begin", True),)))),
+    ),
+    "votings.vote_once": (
+        ("lots", UNITS, WRONG_LOTS[:5] + not_usable("lots", LOTS)), ("keep", ONE_UNIT, WRONG_TRUST + not_usable("keep", ("lot", 0, 0), ("lot", 0, 2))),
+    ),
+    "meanings.meaning": (PACT_PART, ROLL),
+    "meanings.replies": (PACT_PART, ROLL),
+    "folds.fold": (PACT_PART, ROLL, ("many", 1, not_usable("many", None, 2, True, -1, [1]))),
+    "folds.go_on": (
+        PACT_PART, ("folded", (1, (1, (), ())), not_usable("folded", None, [1, (1, (), ())], (True, (1, (), ())), (1, (True, (), ())))),
+        ("deeds", (("do", 0, 1, 0, 0),), WRONG_ROLL),
+    ),
+    "shelves.Shelf": (),
+    "replylines.reply_lines": (("shelf", SHELF, not_usable("shelf", None, {}, Shelf, "p")), ("text", "wakers p", WRONG_TEXT)),
 }
 
 # The methods that the interface lists for a class, each with its parameters.
@@ -184,6 +260,10 @@ METHODS = {
     Sworn: {
         "do": ("move",), "moves": (), "pact": (), "liars": (), "desks": (), "laid": (), "locked": (), "settled": (),
         "parted": (), "awake": (), "fallen": (), "looks": (),
+    },
+    Shelf: {
+        "put": ("word", "text"), "change": ("word", "text"), "drop": ("word",), "undo": (), "words": (), "text_of": ("word",),
+        "pact_of": ("word",),
     },
 }
 
@@ -202,6 +282,37 @@ class InterfaceTests(Checks):
             for parameter in inspect.signature(call).parameters.values():
                 self.assertIs(parameter.default, parameter.empty)
                 self.assertEqual(parameter.kind, parameter.POSITIONAL_OR_KEYWORD)
+
+    def test_each_of_the_document_is_here(self):
+        told = {f"{file}.{words[0]}" for file, words, _ in told_names()}
+        self.assertEqual(set(INTERFACE), told)
+        methods = {(words[0], words[1], parts) for _, words, parts in told_names() if len(words) > 1}
+        here = {(kind.__name__, name, parts) for kind, names in METHODS.items() for name, parts in names.items()}
+        self.assertEqual(here, methods)
+
+    def test_objects_by_turns(self):
+        # Two objects used by turns are as they are when they are used one behind the other.
+        one, two, whole = Plain(DUO), Plain(DUO), (((0, 3),), ((0, 1),))
+        plain = [
+            (("answer", r, whole), ("take", r, whole, None), ("write", r, ("do", 0, r, 0, r)), ("store", r, 1, whole), ("open", 0), ("tell", 0, whole))
+            for r in (1, 2)
+        ]
+        for here, there in zip(*plain):
+            one.do(here)
+            two.do(there)
+        for run, moves in zip((one, two), plain):
+            self.equal(run, play_plain(DUO, moves))
+            self.equal(run.looks(), play_plain(DUO, moves).looks())
+        one, two = Sworn(SWORN_DUO, ((), ())), Sworn(SWORN_DUO, ((), ((0, 1),)))
+        near = (((0, 3),), ())
+        sworn = [(("answer", r, near), ("lay", r, near, None, ()), ("echo", r, (), (("do", 0, r, 0, r),), near), ("open", 0)) for r in (1, 2)]
+        for here, there in zip(*sworn):
+            one.do(here)
+            two.do(there)
+        for run, moves in zip((one, two), sworn):
+            alone = play_sworn(SWORN_DUO, run.liars(), moves)
+            self.equal(run, alone)
+            self.equal((run.locked(), run.laid(), run.looks()), (alone.locked(), alone.laid(), alone.looks()))
 
     def test_methods_stand_in_their_class(self):
         for kind, methods in METHODS.items():
@@ -236,7 +347,8 @@ class InterfaceTests(Checks):
                     values[parts[two][0]] = other
                     self.refused(error, called(name), **values)
             everything = [part[2][0][0] if part[2] else part[1] for part in parts]
-            self.refused(parts[0][2][0][1], called(name), *everything)
+            if everything:
+                self.refused(parts[0][2][0][1], called(name), *everything)
 
     def test_lists_are_not_changed(self):
         # Lists within what is refused stay as they are.

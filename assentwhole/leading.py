@@ -3,12 +3,10 @@
 from assentwhole.carts import Cart, changes_to
 from assentwhole.comings import path_between, reached_from
 from assentwhole.crowds import crowd_counts
-from assentwhole.deeds import change_places, charter_told, is_do, is_led
-from assentwhole.errors import NotUsable
+from assentwhole.deeds import change_places, charter_told, is_led
 from assentwhole.outwaking import outwaker_stair
-from assentwhole.plans import enough_steps
+from assentwhole.plans import enough_steps, require_task
 from assentwhole.stairrules import is_raised
-from assentwhole.stretches import require_run, require_team
 
 
 class Leader:
@@ -77,10 +75,7 @@ class Leader:
 
 def lead_out(run, crowd, deed):
     """Moves of crowd that settle deed behind its best roll in a stretch of it, or None."""
-    require_run(run)
-    require_team(run, crowd)
-    if not is_do(deed):
-        raise NotUsable("deed")
+    require_task(run, crowd, deed)
     book = run._book
     pact = book.base_pact
     if not is_led(pact[4], book.best_roll(crowd), 0):

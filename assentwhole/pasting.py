@@ -15,7 +15,7 @@ def require_alone(scheme, client, thing, word):
 
 
 def moves_behind(scheme, silent, moves, ahead):
-    """Moves done alone as they are done behind so many letters; and how many letters these are then.
+    """Moves done alone as they are done behind so many letters; and how many letters they write.
 
     What the silent houses would write is said, as they may take nothing: so
     each letter has its number among those of these moves as before.
@@ -31,7 +31,7 @@ def moves_behind(scheme, silent, moves, ahead):
             found.extend([("say",) + letter for letter in machines.letters[written:]])
         else:
             found.append(("bring", move[1] + ahead))
-    return tuple(found), ahead + len(machines.letters)
+    return tuple(found), len(machines.letters)
 
 
 def paste(scheme, manner, one, two):

@@ -50,12 +50,17 @@ def plan_moves(book, crowd, reign, deed):
     )
 
 
-def plan_of(run, crowd, deed):
-    """The plan of crowd for deed in run, or None."""
+def require_task(run, crowd, deed):
+    """The errors of what is no run, no team of it, or no deed, or a change."""
     require_run(run)
     require_team(run, crowd)
     if not is_do(deed):
         raise NotUsable("deed")
+
+
+def plan_of(run, crowd, deed):
+    """The plan of crowd for deed in run, or None."""
+    require_task(run, crowd, deed)
     book = run._book
     kind = least_kind(book, charter_told(book.best_roll(crowd)), crowd)
     if kind is None:

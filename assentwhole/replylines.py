@@ -130,7 +130,7 @@ def reply_to(shelf, line):
         return "unknown"
     try:
         row = shelf.row_of(told[0])
-        return answer_to(word, row, [read_part(part, row, text) for part, text in zip(form, told)])
+        return answer_to(word, row, [read_part(part, row, one) for part, one in zip(form, told)])
     except NoSuch:
         return "refused NoSuch"
     except NotUsable:

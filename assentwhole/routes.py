@@ -10,12 +10,9 @@ from assentwhole.wishes import wish_stair
 
 
 def lone_changes(suits):
-    """For each charter the lone ones that suit it, if it is lone itself."""
+    """For each charter the other lone ones that suit it."""
     lone = suits.lone()
-    rows = suiting_rows(suits)
-    return tuple(
-        tuple(other for other in row if other in lone) if charter in lone else () for charter, row in enumerate(rows)
-    )
+    return tuple(tuple(other for other in row if other in lone) for row in suiting_rows(suits))
 
 
 def route_of(pact, wish, charter, other):
@@ -26,7 +23,7 @@ def route_of(pact, wish, charter, other):
     require_charter(pact, other, "other")
     require_own(pact)
     suits = Suits(pact, wished)
-    if not suits.suit(charter, charter) or not suits.suit(other, other):
+    if not suits.suit(charter, charter):
         return None
     way = path_between(lone_changes(suits), charter, other)
     return None if way is None else (charter,) + tuple(way)

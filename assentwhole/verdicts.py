@@ -33,21 +33,17 @@ def are_trees(pact, fall, trees):
     return all(is_closed(entry_case(pact, entry, wish), tree) for entry, tree in zip(entries, trees))
 
 
-def is_within_fall(pact, crowd, fall):
-    """Whether all houses of crowd, known as one, are in fall."""
-    return not has_houses(less_houses(pact[0], crowd, fall))
-
-
 def is_splitting(pact, fall, liars, moves):
     """Whether settled rolls part behind moves, all fallen in fall."""
-    if crowd_fault(sizes_of(pact[0]), liars) is not None or not is_within_fall(pact, liars, fall):
+    if crowd_fault(sizes_of(pact[0]), liars) is not None:
         return False
     if pact[1] == "plain" and has_houses(liars):
         return False
     run = course_done(pact, liars, moves)
     if run is None or run.parted() is None:
         return False
-    return is_within_fall(pact, run.fallen(), fall)
+    # Liars are among the fallen.
+    return not has_houses(less_houses(pact[0], run.fallen(), fall))
 
 
 def verdict(pact, fall):

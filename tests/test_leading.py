@@ -111,6 +111,46 @@ class LeadingTests(Courses):
         moves = lead_out(play_plain(pact, ONE[:3] + (("write", 1, ("change", 1)), ("store", 1, 2, LEFT))), LEFT, DEED)
         self.equal([move for move in moves if move[0] == "write"], [("write", 2, DEED)])
 
+    def test_by_calm_a_second_reign_stays_where_it_begins(self):
+        # Kind 0 alone begins at 0, and settles nowhere; kind 1 settles everywhere.
+        low, high = ("lot", 0, 2), ("lot", 0, 3)
+
+        def row(ask, vote):
+            return (ask, None, vote, low, low)
+
+        charters = ((row(low, high), row(high, low)),) + ((row(low, high), row(low, low)),) * 2
+        pact = ((("a", 3),), "plain", "calm", charters, ((1, 2), (), ()))
+        run = Plain(pact)
+        self.equal(outwakers(pact), ((2,),))
+        self.equal(self.all_led(pact, run, self.slow_of(run)), {(2,)})
+        self.equal([move[1] for move in lead_out(run, (((0, 2),),), DEED) if move[0] == "take"], [2, 3])
+
+    def test_changes_stand_only_where_the_rule_lets_them(self):
+        # Kind 0 begins everywhere and settles at charter 1 alone, kind 1 at the others: by own, and by calm
+        # behind a change, the reign that could settle behind a change is not the one that leads out.
+        lots = (("a", 3),)
+        low, high = ("lot", 0, 2), ("lot", 0, 3)
+
+        def row(vote):
+            return (low, None, vote, low, low)
+
+        charters = ((row(high), row(low)), (row(low), row(high)), (row(high), row(low)))
+        changes = ((1, 2), (0, 2), (1,))
+        crowd = (((0, 2),),)
+        for rule, kinds in (("own", {0: 1, 1: 0, 2: 1}), ("calm", {0: 1, 1: 0, 2: 1}), ("bold", {0: 0, 1: 0, 2: 0})):
+            pact = (lots, "plain", rule, charters, changes)
+            everyone = (((0, 3),),)
+            start = (("answer", 1, everyone), ("take", 1, everyone, None), ("store", 1, 0, everyone))
+            for last, route in ((0, ()), (1, (1,)), (2, (2,)), (0, (1, 0)), (2, (1, 2))):
+                moves = start
+                for at, charter_there in enumerate(route):
+                    moves += (("write", 1, ("change", charter_there)), ("store", 1, at + 1, everyone))
+                run = play_plain(pact, moves)
+                self.assertTrue(self.led(run, self.slow_of(run), crowd, DEED, stair_holds(lots, outwakers(pact), (2,))))
+                reign = lead_out(run, crowd, DEED)[0][1]
+                if rule == "own" or route:
+                    self.equal(reign % 2, kinds[last])
+
     def test_by_bold_several_reigns_lead_out(self):
         # Reigns of kind 0 alone begin at charter 0, and those of kind 1 alone settle, at the last charter.
         lots = (("a", 6),)
@@ -148,6 +188,9 @@ class LeadingTests(Courses):
         moves = (("answer", 1, crowd), ("lay", 1, crowd, None, ()), ("echo", 1, (), odd, liars), ("lock", 1, (), odd, crowd))
         run = play_sworn(pact, liars, moves)
         self.equal(outwakers(pact), ((2,),))
+        self.equal(lead_out(run, crowd, DEED), None)
+        longer = (("change", 1), DEED)
+        run = play_sworn(pact, liars, moves[:2] + (("echo", 1, (), longer, liars), ("lock", 1, (), longer, crowd)))
         self.equal(lead_out(run, crowd, DEED), None)
         self.assertIsNotNone(plan_of(run, crowd, DEED))
         self.assertIsNotNone(lead_out(Sworn(pact, liars), crowd, DEED))

@@ -138,7 +138,8 @@ class ReplyTests(Checks):
         for line in (
             "", " ", "  ", "wakers", "wakers ", "wakers  p", " wakers p", "wakers p ", "wakers p q", "Wakers p", "wakers\tp", "waker p", "wakersp", "splits p", "splits p ",
             "splits", "splits  a:0", "wakes p", "wakes  p a:0", "suffice p", "bears", "bears p", "bears : a", "bears  : a", "route p", "widen", "unknown", "# more", "p wakers",
-            "fewest p a:0", "enough p", "carriers p old old",
+            "fewest p a:0", "enough p", "carriers p old old", "splitters p q", "stoppers p q", "outwakers p q", "mislookers p q", "misholders p q",
+            "bears p x a", "widen p x a", "route p old old x a", "suffice p vote old x a", "bears p :: a", "splits  a", "wakes  a",
         ):
             self.asked(line, "unknown")
         self.asked("wakers of", "refused NoSuch")

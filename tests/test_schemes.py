@@ -56,7 +56,8 @@ class CheckTests(Checks):
             None, 5, True, (), [1, 2, 1, table], (1, 2, 1), (1, 2, 1, table, ()), (0, 2, 1, table), (True, 2, 1, table), (1, 0, 1, table),
             (1, 2, 0, table), (1, 2, True, table), ("1", 2, 1, table), (-1, 2, 1, table), (None, 2, 1, table), (2, 2, 1, table), (1, 1, 1, table),
             (1, 3, 1, table), (1, 2, 2, table), (1, 2, 1, None), (1, 2, 1, list(table)), (1, 2, 1, ()), (1, 2, 1, table[:2]), (1, 2, 1, table + table[:1]),
-            (10 ** 59, 10 ** 59, 10 ** 59, table), (1, 2, 1, table[:2] + (list(table[2]),)), (1, 2, 1, table[:2] + (None,)),
+            (0, 1, 1, still(0, 1, 1)), (1, 0, 1, still(1, 0, 1)), (1, 1, 0, still(1, 1, 0)), (True, 1, 1, still(1, 1, 1)),
+            (1, True, 1, still(1, 1, 1)), (1, 1, True, still(1, 1, 1)), (10 ** 59, 10 ** 59, 10 ** 59, table), (1, 2, 1, table[:2] + (list(table[2]),)), (1, 2, 1, table[:2] + (None,)),
             (1, 2, 1, table[:2] + (table[2][:1],)), (1, 2, 1, table[:2] + ((table[2][0], list(table[2][1])),)),
             (1, 2, 1, table[:2] + ((table[2][0], table[2][1][:2]),)), (1, 2, 1, table[:2] + ((table[2][0], table[2][1][:2] + ([],)),)),
             (1, 2, 1, table[:2] + ((table[2][0], table[2][1][:2] + ((),)),)), (1, 2, 1, table[:2] + ((table[2][0], table[2][1][:2] + (5,)),)),
@@ -191,6 +192,23 @@ class AloneTests(Checks):
     def test_a_letter_ahead_of_its_time(self):
         self.equal(runs_alone(ECHO, (0,), 0, (("begin", 0), ("bring", 3), ("bring", 0), ("bring", 1), ("bring", 4))), False)
         self.equal(runs_alone(ECHO, (0,), 1, (("bring", 0), ("begin", 1))), False)
+
+    def test_a_client_that_has_not_begun(self):
+        # Client 1 would end by a letter of client 0.
+        scheme = scheme_of(1, 1, 1, {(1, 0, 1, 0): (0, ((2, 0),), True), (2, 0, 1, 0): (0, (), True), (2, 0, 2, 0): (0, ((2, 0),), False)})
+        moves = (("begin", 0), ("bring", 0))
+        self.equal(run_scheme(scheme, (), moves)[2], (True, True))
+        self.equal(runs_alone(scheme, (0,), 1, moves), False)
+        self.equal(runs_alone(scheme, (0,), 0, moves), False)
+        self.equal(runs_alone(scheme, (0,), 0, moves[:1]), True)
+
+    def test_moves_of_other_kinds(self):
+        scheme = scheme_of(1, 1, 1, {(1, 0, 1, 0): (0, ((1, 0), (0, 0)), True)})
+        start = (("begin", 0),)
+        for move, wanted in ((("bring", 0), True), (("bring", 1), True), (("return", 0), False), (("begin", 1), False), (("say", 0, 0, 0), False)):
+            self.equal(runs_alone(scheme, (0,), 0, start + (move,)), wanted)
+            self.equal(runs_alone(scheme, (0,), 0, start + (("bring", 0), move)), wanted)
+            self.equal(runs_alone(scheme, (0,), 0, start + (move, ("bring", 0))), wanted)
 
     def test_a_client_that_ends_as_it_begins(self):
         scheme = scheme_of(1, 1, 1, {(1, 0, 1, 0): (0, (), True)})

@@ -127,7 +127,10 @@ class SplitTests(Courses):
 
     def test_stars_by_calm(self):
         # Siblings, of a charter that is not 0, and of one that is come to while 3 is not.
-        for changes in (((1,), (2, 3, 4), (), (), ()), ((1, 2), (), (), (1, 2)), ((), (), (1,), (1,))):
+        for changes in (
+            ((1,), (2, 3, 4), (), (), ()), ((1, 2), (), (), (1, 2)), ((), (), (1,), (1,)), ((1, 3), (2, 3), (), ()), ((1, 2), (2, 3), (), ()),
+            ((1, 2), (), (3, 4), (), (), ()),
+        ):
             for manner in ("plain", "sworn"):
                 for entry in entries_of(single_entry_pact(manner, "calm", changes, 1, ("vote", 0, 0, 0, 0))):
                     self.assertIsNotNone(self.right(single_entry_pact(manner, "calm", changes, 1, entry), NONE))

@@ -121,6 +121,26 @@ class VerdictTests(Courses):
         self.equal(is_verdict(pact, ((),), ("one", (trees[1], trees[0]) + trees[2:])), False)
         self.equal(is_verdict(pact, ((),), ("one", (trees[2], trees[1], trees[0], trees[3]))), False)
 
+    def test_each_entry_has_its_own_two_trusts(self):
+        # One trust for each step of each charter and kind, so that each entry needs another tree.
+        lots = (("a", 40),)
+        numbers = iter(range(21, 39))
+
+        def row():
+            ask, echo, vote = [("lot", 0, next(numbers)) for _ in range(3)]
+            return (ask, echo, vote, ("lot", 0, 1), None)
+
+        pact = (lots, "sworn", "own", ((row(), row()), (row(), row())), ((1,), ()))
+        found = verdict(pact, ((),))
+        self.equal((found[0], len(found[1])), ("one", 24))
+        self.check_trees(pact, (0,), found[1])
+        self.equal(is_verdict(pact, ((),), found), True)
+        # Atoms are those of an entry's own trusts: no other tree fits, but in the place of its like.
+        for at, tree in enumerate(found[1]):
+            for other in found[1]:
+                if other != tree:
+                    self.equal(is_verdict(pact, ((),), ("one", found[1][:at] + (other,) + found[1][at + 1:])), False)
+
     def test_any_tree_that_is_one(self):
         # A tree that asks more than it has to is one, too.
         tree = (("second", 0, 2), ("second",), ("first", 0, 2), ("first",), ("wish",))

@@ -79,7 +79,7 @@ class Machines:
         self.letters = []
         self.begun = [False, False]
         self.ended = [False, False]
-        self.down = {house: True for house in lying}
+        self.felled = {house: True for house in lying}
 
     def is_part(self, word, thing):
         """Whether thing is what a form calls word."""
@@ -125,7 +125,7 @@ class Machines:
             self.take(machine, writer, word)
         elif move[0] == "return":
             self.now[move[1]] = 0
-            self.down[move[1]] = True
+            self.felled[move[1]] = True
         else:
             self.letters.append(move[1:])
 
@@ -139,7 +139,7 @@ class Machines:
 
     def outcome(self):
         """The states, the letters, which clients have ended, and the fallen."""
-        return tuple(self.now), tuple(self.letters), tuple(self.ended), tuple(sorted(self.down))
+        return tuple(self.now), tuple(self.letters), tuple(self.ended), tuple(sorted(self.felled))
 
 
 def is_run_alone(scheme, crowd, client, thing):

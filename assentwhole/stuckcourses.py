@@ -9,7 +9,7 @@ from assentwhole.pactchecks import check_pact
 from assentwhole.plans import least_kind
 
 
-def require_some(lots, crowd):
+def require_houses(lots, crowd):
     """BadCrowd if crowd is no crowd, NotUsable if it has no houses."""
     check_crowd(lots, crowd)
     if not has_houses(crowd):
@@ -40,6 +40,6 @@ def stuck_moves(pact, charter):
 def stuck_course(pact, crowd):
     """Moves behind which crowd settles nothing more; None if it is in the wakers."""
     check_pact(pact)
-    require_some(pact[0], crowd)
+    require_houses(pact[0], crowd)
     charter = stuck_at(pact, crowd)
     return None if charter is None else stuck_moves(pact, charter)

@@ -7,7 +7,7 @@ from assentwhole.deeds import charter_told
 from assentwhole.pactchecks import check_pact
 from assentwhole.pactparts import kinds_in
 from assentwhole.plans import least_kind, suffices
-from assentwhole.stuckcourses import least_kinds, require_some, stuck_moves
+from assentwhole.stuckcourses import least_kinds, require_houses, stuck_moves
 from assentwhole.values import is_integer, is_number_to, is_tuple
 
 
@@ -43,7 +43,7 @@ def is_stuck(pact, crowd, charter, moves):
 def wake_verdict(pact, crowd):
     """A verdict that is_wake_verdict accepts, with the least kinds if crowd is a waker."""
     check_pact(pact)
-    require_some(pact[0], crowd)
+    require_houses(pact[0], crowd)
     kinds = least_kinds(pact, crowd)
     for charter, kind in kinds.items():
         if kind is None:
@@ -54,7 +54,7 @@ def wake_verdict(pact, crowd):
 def is_wake_verdict(pact, crowd, thing):
     """Whether thing is a verdict on crowd."""
     check_pact(pact)
-    require_some(pact[0], crowd)
+    require_houses(pact[0], crowd)
     if is_tuple(thing, 3) and thing[0] == "stuck":
         return is_stuck(pact, crowd, thing[1], thing[2])
     return is_tuple(thing, 2) and thing[0] == "wakes" and are_kinds(pact, crowd, thing[1])

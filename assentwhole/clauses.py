@@ -6,7 +6,7 @@ from assentwhole.stairmaking import least_points
 from assentwhole.stairrules import is_raised, least_members
 
 # On a grid with more points than this, sets of points are too long to be joined quickly.
-MOST_POINTS = 1000000
+MOST_POINTS = 300000
 
 
 def columns_over(lots, rows):

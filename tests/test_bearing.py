@@ -10,7 +10,7 @@ from assentwhole.orders import first_unmet, within
 from assentwhole.splitting import splitters
 from assentwhole.stairs import stair_of
 from tests.playing import A, GRAPHS, single_entry_pact
-from tests.samples import DUO, ONLY, RULES, Checks, random_stair, some_pacts
+from tests.samples import DUO, ONLY, RULES, Checks, random_stair, some_pacts, told_stair, under
 from tests.test_entrylists import trusts_of
 from tests.test_sufficing import NEVER, SOME, some_wish
 
@@ -40,6 +40,21 @@ class BearingTests(Checks):
                 self.equal(bears(pact, wish), borne)
                 self.equal(first_breach(pact, wish), self.told_breach(pact, stair))
         self.assertGreater(min(found.values()), 50)
+
+    def test_one_crowd_less(self):
+        # A wish of just the splitters is borne; one that lacks the crowds of some counts of theirs is not.
+        tried = 0
+        for pact in some_pacts(20, 84):
+            stair = splitters(pact)
+            if any(not any(member) for member in stair):
+                continue
+            self.equal(bears(pact, ("least", stair)), True)
+            for member in stair:
+                less = told_stair(pact[0], lambda x: x != member and any(under(low, x) for low in stair))
+                self.equal(bears(pact, ("least", less)), False)
+                self.equal(first_breach(pact, ("least", less)), self.told_breach(pact, less))
+                tried += 1
+        self.assertGreater(tried, 10)
 
     def test_the_first_entry(self):
         for manner in ("plain", "sworn"):

@@ -5,8 +5,9 @@ import itertools
 from assentwhole.bearing import bears
 from assentwhole.errors import BadPact, NotFor, NotUsable
 from assentwhole.lones import lone_charters
+from assentwhole.routes import route_of, two_steps
 from assentwhole.safechanges import safe_changes
-from tests.samples import DUO, SWORN, Checks
+from tests.samples import DUO, LOTS, ONLY, SWORN, Checks
 from tests.test_joints import PAIR
 from tests.test_lones import WRONG_WISHES, some_cases, told_suit
 from tests.test_sufficing import SOME, WISH
@@ -27,6 +28,15 @@ class SafeTests(Checks):
             self.equal(safe_changes(pact, wish), told)
             found[any(told)] += 1
         self.assertGreater(min(found.values()), 10)
+
+    def test_one_that_does_not_suit_itself(self):
+        # Any house is enough for 1, all are needed for 0: they suit, though 1 does not suit itself.
+        loose, every = ("any", 1, (SOME, ONLY)), ("any", 2, (("lot", 0, 3), ONLY))
+        rows = tuple(((trust, None, trust, trust, trust),) for trust in (every, loose))
+        for changes in (((1,), ()), ((), ()), ((), (0,))):
+            pact = (LOTS, "plain", "own", rows, changes)
+            self.equal((safe_changes(pact, WISH), lone_charters(pact, WISH)), (((1,), (0,)), (0,)))
+            self.equal((two_steps(pact, WISH, 0, 1), route_of(pact, WISH, 0, 1), route_of(pact, WISH, 1, 0)), (None, None, None))
 
     def test_which_tables_of_changes_are_safe(self):
         # Of lone charters all tables within the safe changes bear the wish, whichever is first; others do not.

@@ -23,11 +23,16 @@ def entries_in(pact):
     return tuple(entry for one, two in charter_pairs(pact) for entry in pair_entries(pact, one, two))
 
 
+def places_of(entry):
+    """Where the two trusts of an entry stand: for each its step, charter and kind."""
+    step, one, here, two, there = entry
+    return (step, one, here), ("ask" if step == "vote" else "echo", two, there)
+
+
 def couple_of(stairs, entry):
     """The stairs of the two trusts of an entry."""
-    step, one, here, two, there = entry
-    other_step = "ask" if step == "vote" else "echo"
-    return stairs.stair(step, one, here), stairs.stair(other_step, two, there)
+    one, two = places_of(entry)
+    return stairs.stair(*one), stairs.stair(*two)
 
 
 def is_entry(pact, thing):

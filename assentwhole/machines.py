@@ -73,7 +73,9 @@ class Machines:
     """The machines of a scheme, of which some houses are liars."""
 
     def __init__(self, scheme, lying):
-        self.many, _, self.many_words, self.table = scheme
+        self.many = scheme[0]
+        self.many_words = scheme[2]
+        self.table = scheme[3]
         self.lying = lying
         self.now = [0] * (self.many + 2)
         self.letters = []

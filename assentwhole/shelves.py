@@ -32,27 +32,27 @@ class Shelf:
         require_text(text)
         if word in self._rows:
             raise Taken(word)
-        self._set(word, (text,) + read_pact(text))
+        self._keep(word, (text,) + read_pact(text))
 
     def change(self, word, text):
         """Put text in the place of the text under word."""
         require_word(word)
         require_text(text)
         self.row_of(word)
-        self._set(word, (text,) + read_pact(text))
+        self._keep(word, (text,) + read_pact(text))
 
     def drop(self, word):
         """Take the text under word away."""
         require_word(word)
         self.row_of(word)
-        self._set(word, None)
+        self._keep(word, None)
 
     def undo(self):
         """Take back the last put, change or drop that is not taken back yet."""
         if not self._before:
             raise NothingToUndo()
         word, row = self._before.pop()
-        self._lay(word, row)
+        self._stand(word, row)
 
     def words(self):
         """The ascending words that have a text."""
@@ -74,14 +74,14 @@ class Shelf:
             raise NoSuch(word)
         return self._rows[word]
 
-    def _lay(self, word, row):
+    def _stand(self, word, row):
         """From now on word has this row, or none."""
         if row is None:
             del self._rows[word]
         else:
             self._rows[word] = row
 
-    def _set(self, word, row):
+    def _keep(self, word, row):
         """Word gets a row, or none, which may be taken back."""
         self._before.append((word, self._rows.get(word)))
-        self._lay(word, row)
+        self._stand(word, row)

@@ -1,9 +1,7 @@
 """Courses in which two settled rolls part."""
 
 from assentwhole.comings import reached_from
-from assentwhole.courses import (
-    ONE_DEED, OTHER_DEED, cart_at, cart_past, changes_between, keep_for_one, low_crowds,
-)
+from assentwhole.courses import ONE_DEED, OTHER_DEED, cart_at, cart_past, changes_between, keep_for_one, low_crowds
 from assentwhole.crowdjoins import no_houses, shared_houses
 from assentwhole.crowds import check_crowd
 from assentwhole.entrylists import couple_of, entries_in

@@ -22,9 +22,9 @@ def least_kinds(pact, crowd):
     return {charter: least_kind(book, charter, crowd) for charter in reached_from(pact[4], 0)}
 
 
-def stuck_at(pact, crowd):
-    """The first charter that is come to and for which crowd is in enough for no kind, or None."""
-    for charter, kind in least_kinds(pact, crowd).items():
+def stuck_at(kinds):
+    """The first charter of least_kinds for which there is no kind, or None."""
+    for charter, kind in kinds.items():
         if kind is None:
             return charter
     return None
@@ -41,5 +41,5 @@ def stuck_course(pact, crowd):
     """Moves behind which crowd settles nothing more; None if it is in the wakers."""
     check_pact(pact)
     require_houses(pact[0], crowd)
-    charter = stuck_at(pact, crowd)
+    charter = stuck_at(least_kinds(pact, crowd))
     return None if charter is None else stuck_moves(pact, charter)

@@ -3,7 +3,7 @@
 from assentwhole.courses import course_done
 from assentwhole.crowdjoins import has_houses, less_houses, no_houses
 from assentwhole.crowds import check_crowd, crowd_counts, crowd_fault
-from assentwhole.entrylists import entries_in
+from assentwhole.entrylists import entries_in, places_of
 from assentwhole.lots import sizes_of
 from assentwhole.mirrors import beyond
 from assentwhole.pactchecks import check_pact
@@ -17,11 +17,8 @@ from assentwhole.values import is_tuple
 
 def entry_case(pact, entry, wish):
     """What the paper of an entry is about: its two trusts, and a wish."""
-    step, one, here, two, there = entry
-    other_step = "ask" if step == "vote" else "echo"
-    first = trust_at(pact, step, one, here)
-    second = trust_at(pact, other_step, two, there)
-    return PaperCase(sizes_of(pact[0]), first, second, wish)
+    one, two = places_of(entry)
+    return PaperCase(sizes_of(pact[0]), trust_at(pact, *one), trust_at(pact, *two), wish)
 
 
 def are_trees(pact, fall, trees):

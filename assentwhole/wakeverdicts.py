@@ -7,7 +7,7 @@ from assentwhole.deeds import charter_told
 from assentwhole.pactchecks import check_pact
 from assentwhole.pactparts import kinds_in
 from assentwhole.plans import least_kind, suffices
-from assentwhole.stuckcourses import least_kinds, require_houses, stuck_moves
+from assentwhole.stuckcourses import least_kinds, require_houses, stuck_at, stuck_moves
 from assentwhole.values import is_integer, is_number_to, is_tuple
 
 
@@ -45,10 +45,10 @@ def wake_verdict(pact, crowd):
     check_pact(pact)
     require_houses(pact[0], crowd)
     kinds = least_kinds(pact, crowd)
-    for charter, kind in kinds.items():
-        if kind is None:
-            return "stuck", charter, stuck_moves(pact, charter)
-    return "wakes", tuple(kinds.values())
+    charter = stuck_at(kinds)
+    if charter is None:
+        return "wakes", tuple(kinds.values())
+    return "stuck", charter, stuck_moves(pact, charter)
 
 
 def is_wake_verdict(pact, crowd, thing):
